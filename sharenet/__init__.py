@@ -1,0 +1,1 @@
+"""Sharenet: an optimal reducer for a functional language with levels."""
