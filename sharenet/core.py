@@ -7,7 +7,7 @@ from sharenet.walking import walked
 
 _MOST_NODES = 20000
 
-# The parts of a core term are its last elements; this is where they begin.
+# The parts of a core term are its last items; this is where they begin.
 _FIRST_PART = {"var": 2, "num": 2, "op": 2, "lam": 1, "app": 1, "pair": 1, "fst": 1, "snd": 1}
 
 

@@ -4,7 +4,7 @@ from sharenet.errors import InvalidText, TooLarge
 from sharenet.terms import is_name
 from sharenet.tokens import divided_tokens
 
-_MOST_OPEN = 60
+_MOST_BEGUN = 60
 
 
 class Cursor:
@@ -12,7 +12,7 @@ class Cursor:
 
     def __init__(self, text):
         tokens, divided = divided_tokens(text)
-        # A text that opens too much is too large even if it is broken behind that place.
+        # A text that begins too much is too large even if it is broken behind that place.
         _refuse_deep(tokens)
         if not divided:
             raise InvalidText(f"there is no token behind {len(tokens)} tokens")
@@ -49,12 +49,12 @@ class Cursor:
 
 
 def _refuse_deep(tokens):
-    """Raise TooLarge if too much is open at some token."""
+    """Raise TooLarge if too much is begun and not ended at some token."""
     balance = 0
     for token in tokens:
         if token in ("(", "let"):
             balance += 1
         elif token in (")", "in"):
             balance -= 1
-        if balance > _MOST_OPEN:
-            raise TooLarge(f"more than {_MOST_OPEN} parentheses and let are open")
+        if balance > _MOST_BEGUN:
+            raise TooLarge(f"more than {_MOST_BEGUN} parentheses and let are begun and not ended")

@@ -1,6 +1,6 @@
 """Reading kinds, terms and programs from their texts.
 
-The functions that call one another do so only where a parenthesis or a `let` is open, of which a cursor
+The functions that call one another do so only inside a parenthesis or the part of a `let`, of which a cursor
 allows few. Everything else that may be deep is read by loops.
 """
 

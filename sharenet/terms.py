@@ -6,7 +6,7 @@ RESERVED_WORDS = ("let", "in", "def")
 
 _LONGEST_NAME = 8
 
-# The terms inside a term are its last elements; this is where they begin.
+# The terms inside a term are its last items; this is where they begin.
 _FIRST_PART = {"var": 2, "num": 2, "op": 2, "lam": 3, "app": 1, "box": 1, "let": 2, "pair": 1, "split": 3}
 
 # How many names a term binds in its last part; they stand directly behind its form.
