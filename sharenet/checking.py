@@ -90,7 +90,7 @@ class Checker:
             self.levels_right = False
         return meaning.kind
 
-    def made(self, node, meanings, parts):
+    def made(self, node, level, meanings, parts):
         """Return the kind of a node from the kinds of its parts."""
         if node[0] == "lam":
             return fun_kind(node[2], parts[0])

@@ -40,6 +40,6 @@ class Linker:
         """Put a meaning into the place of a name."""
         return meaning
 
-    def made(self, node, meanings, parts):
+    def made(self, node, level, meanings, parts):
         """Give a node its new parts."""
         return with_parts(node, parts)

@@ -1,6 +1,8 @@
-"""Writing nested things and numbers of any size."""
+"""Writing nested things, and writing and reading numbers of any size."""
 
-# Python refuses to write very long numbers at once, so they are cut into chunks.
+from sharenet.terms import DIGITS
+
+# Python refuses to write and to read very long numbers at once, so they are cut into chunks.
 _CHUNK_DIGITS = 64
 _CHUNK = 10 ** 64
 
@@ -32,3 +34,16 @@ def decimal(number):
     if number < 0:
         chunks.append("-")
     return "".join(chunks[::-1])
+
+
+def integer_from(text):
+    """Return the integer with a decimal form, which may begin with zeros, or None if the text is not of this form."""
+    digits = text[1:] if text[:1] == "-" else text
+    if digits == "" or not all([sign in DIGITS for sign in digits]):
+        return None
+    at = len(digits) % _CHUNK_DIGITS
+    number = int("0" + digits[:at])
+    while at < len(digits):
+        number = number * _CHUNK + int(digits[at:at + _CHUNK_DIGITS])
+        at += _CHUNK_DIGITS
+    return number if digits == text else -number

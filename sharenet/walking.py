@@ -10,8 +10,8 @@ def walked(term, names, visitor):
     - used(meaning, level) returns the result for an occurrence of a name at a level;
     - bound(node, part, level) returns the list of the meanings of the names that a node binds. It is called
       before the last part of the node is entered; part is the result for its first part, and None for a lam;
-    - made(node, meanings, parts) returns the result for a node other than an occurrence, from the meanings of
-      the names that it binds and the results for its parts.
+    - made(node, level, meanings, parts) returns the result for a node other than an occurrence, from the meanings
+      of the names that it binds and the results for its parts.
     """
     walk = Walk(visitor)
     walk.waiting.append(("enter", term, names, 0))
@@ -22,7 +22,7 @@ def walked(term, names, visitor):
         elif stage == "bind":
             walk.bind(node, known, level)
         else:
-            walk.leave(node, known)
+            walk.leave(node, known, level)
     return walk.results.pop()
 
 
@@ -60,12 +60,12 @@ class Walk:
         self.waiting.append(("leave", node, meanings, level))
         self.await_parts(parts[-1:], inner, level)
 
-    def leave(self, node, meanings):
+    def leave(self, node, meanings, level):
         """Meet a node behind its parts."""
         start = len(self.results) - len(parts_of(node))
         parts = self.results[start:]
         del self.results[start:]
-        self.results.append(self.visitor.made(node, meanings, parts))
+        self.results.append(self.visitor.made(node, level, meanings, parts))
 
     def await_parts(self, parts, names, level):
         """Let parts be entered next, the first one first."""

@@ -6,7 +6,8 @@ import pathlib
 import unittest
 
 import sharenet
-from sharenet import checking, core, kinds, linking, reader, terms, tokens, writer
+from sharenet import building, canonical, checking, core, families, kinds, linking, needed, net, plain, readback
+from sharenet import reader, records, rules, running, terms, tokens, writer
 
 FOLDER = pathlib.Path(sharenet.__file__).parent
 FILES = sorted(FOLDER.rglob("*.py"))
@@ -27,9 +28,25 @@ SIGNATURES = {
     "linking": {"linked": "(program, name)"},
     "checking": {"check_term": "(term)", "check_program": "(program)", "levels_of": "(term, name)"},
     "core": {"core_size": "(core)", "core_text": "(core)", "is_closed": "(core)", "core_of": "(term)"},
+    "plain": {"redexes": "(core)", "contract": "(core, path)", "normal_form": "(core, *, most=10000)",
+              "normal_steps": "(core, *, most=10000)"},
+    "families": {"family_sequence": "(term, *, choices=(), most=2000)", "work_of": "(term, *, most=2000)"},
+    "net": {"Net": "(agents, wires)"},
+    "canonical": {"canonical_order": "(net)", "canonical_text": "(net)", "same_net": "(first, second)",
+                  "read_net": "(text)"},
+    "building": {"net_of": "(term)"},
+    "rules": {"rule_of": "(net, pair)", "interact": "(net, pair)"},
+    "running": {"run_net": "(net, *, choices=(), most=10000)"},
+    "readback": {"read_back": "(net)", "read_count": "(net, name)", "shared_agents": "(net)"},
+    "needed": {"value_known": "(net)", "needed_pair": "(net)", "run_needed": "(net, *, most=10000)"},
+    "records": {"record_of": "(term, *, choices=(), most=2000)", "check_record": "(term, record, core)"},
 }
+METHODS = {"names": "(self)", "agent": "(self, name)", "peer": "(self, name, port)", "pairs": "(self)",
+           "copied": "(self)", "__len__": "(self)"}
 MODULES = {"kinds": kinds, "tokens": tokens, "terms": terms, "reader": reader, "writer": writer,
-           "linking": linking, "checking": checking, "core": core}
+           "linking": linking, "checking": checking, "core": core, "plain": plain, "families": families, "net": net,
+           "canonical": canonical, "building": building, "rules": rules, "running": running, "readback": readback,
+           "needed": needed, "records": records}
 
 
 class Interface(unittest.TestCase):
@@ -40,6 +57,14 @@ class Interface(unittest.TestCase):
                     function = getattr(MODULES[module], name)
                     self.assertEqual(function.__module__, f"sharenet.{module}")
                     self.assertEqual(str(inspect.signature(function)), arguments)
+
+    def test_methods_stand_in_the_class_itself(self):
+        for name, arguments in METHODS.items():
+            self.assertEqual(str(inspect.signature(vars(net.Net)[name])), arguments)
+
+    def test_constants(self):
+        self.assertIsInstance(net.PORTS, dict)
+        self.assertIsInstance(running.RULES, tuple)
 
 
 class Form(unittest.TestCase):
@@ -103,7 +128,7 @@ class Form(unittest.TestCase):
                 elif isinstance(node, ast.Name) and isinstance(node.ctx, ast.Store):
                     names = [node.id]
                 for name in names:
-                    if name != "__init__":
+                    if name not in ("__init__", "__len__"):
                         self.assertFalse(hasattr(builtins, name), f"{path.name}: {name}")
                         self.assertRegex(name, r"\A(_|_?[A-Za-z][A-Za-z0-9_]*)\Z")
 
