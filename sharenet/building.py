@@ -16,7 +16,7 @@ def net_of(term):
     counter = UseCounter()
     walked(term, {}, counter)
     builder = Builder(counter.uses)
-    root = builder.added("root", 0, None)
+    root = builder.new_agent("root", 0, None)
     builder.wires.append(((root, 0), walked(term, {}, builder)))
     return Net(builder.agents, builder.wires)
 
@@ -69,7 +69,7 @@ class Builder:
         self.agents = []
         self.wires = []
 
-    def added(self, kind, level, data):
+    def new_agent(self, kind, level, data):
         """Add an agent and return its name."""
         self.agents.append((kind, level, data))
         return len(self.agents) - 1
@@ -80,7 +80,7 @@ class Builder:
         self.names_bound += len(bound_names(node))
         if node[0] == "let":
             return [Outputs(self.shared(part, self.uses[first_name], level))]
-        agent = self.added(node[0], level, None)
+        agent = self.new_agent(node[0], level, None)
         if node[0] == "lam":
             return [Outputs([(agent, 1)])]
         self.wires.append(((agent, 0), part))
@@ -91,7 +91,7 @@ class Builder:
         ports = []
         last = source
         for _ in range(uses - 1):
-            fan = self.added("fan", level, None)
+            fan = self.new_agent("fan", level, None)
             self.wires.append(((fan, 0), last))
             ports.append((fan, 1))
             last = (fan, 2)
@@ -109,9 +109,9 @@ class Builder:
         if form == "lam":
             agent = meanings[0].ports[0][0]
         elif form == "num":
-            agent = self.added(form, 0, node[1])
+            agent = self.new_agent(form, 0, node[1])
         else:
-            agent = self.added(form, level, node[1] if form == "op" else None)
+            agent = self.new_agent(form, level, node[1] if form == "op" else None)
         for port, part in zip(_PART_PORTS[form], parts):
             self.wires.append(((agent, port), part))
         return (agent, _OUTPUT_PORT[form])

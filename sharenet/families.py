@@ -42,7 +42,7 @@ def _contractions(term, choices, most):
             raise TooLong(f"there are still redexes after {most} contractions")
         redex = reduction.node
         made.append((redex.head[0], redex.parts[0].label))
-        reduction.contract()
+        reduction.contract_here()
     return made
 
 

@@ -51,14 +51,14 @@ class Labels:
         """Return the number of a whole sequence, whose items before and behind are stacks with the next one on top."""
         step = 0
         while before or behind or len(middle) > 1:
-            front = self.taken(before, step, False)
-            back = self.taken(behind, step, True)
+            front = self.take_group(before, step, False)
+            back = self.take_group(behind, step, True)
             step += 1
             items = front + middle + back[::-1]
             middle = self.rows_grouped(items, step) if step & 1 else self.pairs_grouped(items, step)
         return middle[0][0]
 
-    def taken(self, stack, step, backward):
+    def take_group(self, stack, step, backward):
         """Take the topmost group of the next step from a stack and return its items at this step, the topmost last.
 
         It must be made anew, because its neighbour is another one now. The stack may hold the items backward.

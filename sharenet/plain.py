@@ -70,5 +70,5 @@ def _normalized(core, most):
         if sum(steps) >= most:
             raise TooLong(f"there are still redexes after {most} contractions")
         steps[_PLACES[reduction.node.head[0]]] += 1
-        reduction.contract()
+        reduction.contract_here()
     return core_of_node(reduction.whole()), steps

@@ -47,9 +47,9 @@ def _read(net):
     while walk.waiting:
         binder, port, stacks = walk.waiting.pop()
         if binder is None:
-            walk.enter(port, stacks)
+            walk.enter_agent(port, stacks)
         else:
-            walk.unbind(binder)
+            walk.drop_binder(binder)
     return walk
 
 
@@ -73,7 +73,7 @@ class NetWalk:
         self.lams = 0
         self.places = {}
 
-    def enter(self, port, stacks):
+    def enter_agent(self, port, stacks):
         """Enter an agent at a port."""
         self.entered[port] = self.entered.get(port, 0) + 1
         self.steps += 1
@@ -117,7 +117,7 @@ class NetWalk:
             head = (form,) if data is None else (form, data)
             self.heads.append((head, len(part_ports), None))
         if kind == "lam":
-            self.bind(self.binder(name, stacks))
+            self.add_binder(self.binder(name, stacks))
         for part_port in reversed(part_ports):
             self.waiting.append((None, self.net.peer(name, part_port), stacks))
 
@@ -134,13 +134,13 @@ class NetWalk:
         less = len([fan_level for fan_level in self.levels if fan_level < level])
         return (name, stacks[:less])
 
-    def bind(self, binder):
+    def add_binder(self, binder):
         """Make a binder the newest one until everything that is put on the waiting list from now on is read."""
         self.places.setdefault(binder, []).append(self.lams)
         self.lams += 1
         self.waiting.append((binder, None, None))
 
-    def unbind(self, binder):
+    def drop_binder(self, binder):
         """Take the newest binder off the list."""
         self.places[binder].pop()
         self.lams -= 1

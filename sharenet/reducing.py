@@ -26,24 +26,24 @@ class Reduction:
             return False
         index = choice % many
         while not self.before <= index < self.before + self.node.redexes:
-            self.leave()
+            self.go_out()
         while index > self.before or not self.node.is_redex:
-            self.enter_towards(index)
+            self.go_towards(index)
         return True
 
-    def contract(self):
+    def contract_here(self):
         """Contract the redex in view, and view the node around it, which may have become a redex."""
         self.node = contracted(self.node, self.labels)
         if self.around:
-            self.leave()
+            self.go_out()
 
     def whole(self):
         """View the whole term and return it."""
         while self.around:
-            self.leave()
+            self.go_out()
         return self.node
 
-    def enter_towards(self, index):
+    def go_towards(self, index):
         """View the part in which the redex with an index is."""
         outer = self.node
         before = self.before + (1 if outer.is_redex else 0)
@@ -56,7 +56,7 @@ class Reduction:
         self.before = before
         self.outside += outer.redexes - self.node.redexes
 
-    def leave(self):
+    def go_out(self):
         """View the node around the one in view."""
         outer, number, self.before, self.outside = self.around.pop()
         self.node = with_part(outer, number, self.node)

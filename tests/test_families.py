@@ -164,13 +164,13 @@ class Limits(unittest.TestCase):
         self.assertEqual(work_of(("num", 1), most=0), (0, 0))
 
     def test_the_default(self):
-        def steps(many):
-            return applied((many - 2) // 2, read_term("\\x:Int. x + 1"), ("num", 0))
-
-        self.assertEqual(len(family_sequence(steps(2000))), 2000)
-        self.assertEqual(work_of(steps(2000)), (1001, 0))
-        self.assertRaises(TooLong, family_sequence, steps(2002))
-        self.assertRaises(TooLong, work_of, steps(2002))
+        total = ("num", 1)
+        for _ in range(2000):
+            total = ("op", "+", total, ("num", 1))
+        self.assertEqual(family_sequence(total), [-1] * 2000)
+        self.assertEqual(work_of(total), (0, 0))
+        self.assertRaises(TooLong, family_sequence, ("op", "+", total, ("num", 1)))
+        self.assertRaises(TooLong, work_of, ("op", "+", total, ("num", 1)))
 
     def test_the_errors_of_core_of_come_first(self):
         for text, error in (("\\x:Int. y", UnknownName), ("1 2", KindMismatch), ("let x = 1 in !x", LevelMismatch),
@@ -233,6 +233,18 @@ class LongSequences(unittest.TestCase):
                     numbers[whole] = labels.joined(numbers[first], sort, label, numbers[second])
                     self.assertEqual(labels.of_marks(whole), numbers[whole])
             self.assertEqual(len(set(numbers.values())), len(numbers))
+
+    def test_marks_that_are_repeated(self):
+        labels, seen = Labels(), set()
+        for marks in ((1,), (1, 2), (2, 2, 1), (1, 2, 1)):
+            for many in range(1, 40):
+                seen.add(labels.of_marks(marks * many))
+        self.assertEqual(len(seen), 4 * 39)
+        for marks in ((1,), (1, 2), (1, ("over", 0)), (("over", 0),)):
+            for many in range(1, 20):
+                first, second = labels.of_marks(marks * many), labels.of_marks(marks * 3)
+                whole = labels.of_marks(marks * many + (("over", 0),) + marks * 3)
+                self.assertEqual(labels.joined(first, "over", 0, second), whole)
 
     def test_very_long_labels(self):
         labels = Labels()

@@ -78,6 +78,7 @@ class Agents(unittest.TestCase):
     def test_other_kinds(self):
         for kind in ("Lam", "", "lam ", "op2", "var", "box", None, 0, ("lam",)):
             self.refuse(kind, 0, None)
+        self.assertRaises(InvalidNet, Net, [ROOT, (["num"], 0, 1)], [WIRE])
 
     def test_agents_that_are_not_of_three_parts(self):
         for agent in (("num", 0), ("num", 0, 1, 2), ("num",), (), None, "num"):

@@ -236,7 +236,9 @@ class NormalForms(unittest.TestCase):
         for _ in range(10000):
             additions = ("op", "+", additions, ONE)
         self.assertEqual(normal_form(additions), ("num", 10001))
+        self.assertEqual(normal_steps(additions), (0, 0, 10000))
         self.assertRaises(TooLong, normal_form, ("op", "+", additions, ONE))
+        self.assertRaises(TooLong, normal_steps, ("op", "+", additions, ONE))
 
     def test_most_is_given_by_its_name(self):
         with self.assertRaises(TypeError):

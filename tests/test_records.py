@@ -87,7 +87,7 @@ class Records(unittest.TestCase):
         for _ in range(1000):
             total = ("op", "+", total, ("num", 1))
         self.assertEqual(len(record_of(total)), 2000)
-        self.assertRaises(TooLong, record_of, ("op", "+", total, ("num", 1)))
+        self.assertRaises(TooLong, record_of, ("app", ("lam", "x", ("int",), ("var", "x")), total))
 
     def test_the_errors_of_checking(self):
         for text, error in (("\\x:Int. y", UnknownName), ("1 2", KindMismatch), ("let x = 1 in !x", LevelMismatch),
