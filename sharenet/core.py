@@ -1,6 +1,6 @@
 """Core terms, and the core of a checked term."""
 
-from sharenet.heads import core_from, core_parts
+from sharenet.heads import core_parts, nested_from
 from sharenet.texts import decimal, written
 from sharenet.unfolding import core_heads
 
@@ -34,7 +34,7 @@ def is_closed(core):
 
 def core_of(term):
     """Return the core of a checked term."""
-    return core_from(core_heads(term))
+    return nested_from(core_heads(term))
 
 
 def _pieces(core):

@@ -41,12 +41,12 @@ def joined_heads(heads, made):
     return done.pop()
 
 
-def core_from(heads):
-    """Return the core term with a list of heads."""
-    return joined_heads(heads, _core_node)
+def nested_from(heads):
+    """Return the core term with a list of heads, or a term or a kind, if the heads are of that sort."""
+    return joined_heads(heads, _nested)
 
 
-def _core_node(head, parts, label):
+def _nested(head, parts, label):
     return head + tuple(parts)
 
 

@@ -1,6 +1,7 @@
 """Nets of agents that are connected by wires."""
 
 from sharenet.errors import InvalidNet
+from sharenet.pairlists import add_pair, take_pair
 
 PORTS = {"root": 1, "lam": 3, "app": 3, "fan": 3, "pair": 3, "split": 3, "num": 1, "op": 3, "op1": 2}
 
@@ -86,30 +87,38 @@ class Net:
         """Keep two agents as an active pair if the wire between two of their ports makes them one."""
         if one[1] > 0 or other[1] > 0 or self.root in (one[0], other[0]):
             return
-        pair = (min(one[0], other[0]), max(one[0], other[0]))
-        at = _place_of(self.active, pair)
-        if self.active[at:at + 1] != [pair]:
-            self.active.insert(at, pair)
+        add_pair(self.active, (min(one[0], other[0]), max(one[0], other[0])))
 
     def drop_pair(self, pair):
         """Remove the agents of an active pair; other wires must have taken the places of theirs."""
-        del self.active[_place_of(self.active, pair)]
+        take_pair(self.active, pair)
         for name in pair:
             del self.agents[name]
             del self.ends[name]
 
+    def around_pair(self, pair):
+        """Return what bring_back needs to take the interaction of a pair back: its agents, their peers and a name."""
+        kept = {name: (self.agents[name], list(self.ends[name])) for name in pair}
+        return (pair, kept, self.next_name)
 
-def _place_of(pairs, pair):
-    """Return the index of a pair in an ascending list, or where it would have to be put."""
-    low = 0
-    high = len(pairs)
-    while low < high:
-        middle = (low + high) // 2
-        if pairs[middle] < pair:
-            low = middle + 1
-        else:
-            high = middle
-    return low
+    def bring_back(self, before):
+        """Take the last interaction back; around_pair returned `before` ahead of it."""
+        pair, kept, next_name = before
+        for name in range(next_name, self.next_name):
+            del self.agents[name]
+            del self.ends[name]
+        self.next_name = next_name
+        for name in pair:
+            self.agents[name], self.ends[name] = kept[name]
+        for name in pair:
+            for port, peer in enumerate(list(self.ends[name])):
+                self.connect((name, port), peer)
+        self.active = [other for other in self.active if self.is_active(other)]
+
+    def is_active(self, pair):
+        """Return True if the agents of a pair are still there and their principal ports are still connected."""
+        first, second = pair
+        return first in self.ends and self.ends[first][0] == (second, 0)
 
 
 def _refuse_agents(agents):

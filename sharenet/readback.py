@@ -1,7 +1,7 @@
 """Reading a net back as a core term."""
 
 from sharenet.errors import Unreadable
-from sharenet.heads import core_from
+from sharenet.heads import nested_from
 from sharenet.stacks import Stacks
 
 _MOST_ENTERED = 100000
@@ -21,7 +21,7 @@ _READ = {
 
 def read_back(net):
     """Return the core term that is read back from a net."""
-    return core_from(_read(net).heads)
+    return nested_from(_read(net).heads)
 
 
 def read_count(net, name):

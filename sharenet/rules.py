@@ -1,96 +1,65 @@
 """The rules by which the agents of an active pair interact."""
 
-from sharenet.arithmetic import result_of
 from sharenet.errors import InvalidStep
-from sharenet.net import PORTS
-
-# The rules for two agents of the same level.
-_SAME_LEVEL = {("lam", "app"): "beta", ("pair", "split"): "unpair", ("fan", "fan"): "annihilate"}
+from sharenet.plans import plan_for
 
 
 def rule_of(net, pair):
     """Return the name of the rule by which an active pair interacts, or None if there is none."""
-    _refuse_inactive(net, pair)
-    first, second = pair
-    found = _rule_between(net.agent(first), net.agent(second))
-    return found if found is not None else _rule_between(net.agent(second), net.agent(first))
+    plan = _plan_of(net, pair)
+    return None if plan is None else plan.rule
 
 
 def interact(net, pair):
     """Let an active pair interact and return the name of the rule."""
-    rule = rule_of(net, pair)
-    if rule is None:
-        raise InvalidStep("there is no rule for the pair")
-    first, second = pair
-    if _rule_between(net.agent(first), net.agent(second)) is None:
-        first, second = second, first
-    if rule == "duplicate":
-        _duplicate(net, first, second)
-    elif rule == "operate":
-        _operate(net, first, second)
-    else:
-        _join(net, (first, 1), (second, 1))
-        _join(net, (first, 2), (second, 2))
-    net.drop_pair(pair)
+    rule, _ = interact_traced(net, pair)
     return rule
 
 
-def _refuse_inactive(net, pair):
-    """Raise InvalidStep if a pair is not active."""
+def interact_traced(net, pair):
+    """Let an active pair interact, and return the name of the rule and the list of the wires that it made.
+
+    They come in the order in which they were made, each as a tuple of its two ports and of the list of the ports of
+    removed agents whose wires go on in it. A port of a wire may itself belong to the pair, where a later wire takes it.
+    """
+    plan = _plan_of(net, pair)
+    if plan is None:
+        raise InvalidStep("there is no rule for the pair")
+    made = []
+    for one, other in plan.joins:
+        made.extend(_join(net, (pair[one[0]], one[1]), (pair[other[0]], other[1])))
+    made.extend(_put_in(net, pair, plan))
+    net.drop_pair(pair)
+    return plan.rule, made
+
+
+def _plan_of(net, pair):
+    """Return the plan for an active pair, or None if there is no rule for it."""
     if pair not in net.pairs():
         raise InvalidStep("the pair is not active")
-
-
-def _rule_between(first, second):
-    """Return the name of the rule for two agents, the first of which takes the first place in it, or None."""
-    kind, level, _ = first
-    other, height, _ = second
-    if level == height and (kind, other) in _SAME_LEVEL:
-        return _SAME_LEVEL[(kind, other)]
-    if kind == "fan" and (other == "num" or level < height):
-        return "duplicate"
-    if kind == "num" and other in ("op", "op1"):
-        return "operate"
-    return None
+    first, second = pair
+    return plan_for(net.agent(first), net.agent(second))
 
 
 def _join(net, one, other):
-    """Connect the peers of two ports."""
+    """Connect the peers of two ports, and return the list of the wires that are made by it."""
     first = net.peer(one[0], one[1])
     second = net.peer(other[0], other[1])
-    if first != other:
-        net.connect(first, second)
+    if first == other:
+        return []
+    net.connect(first, second)
+    return [(first, second, [one, other])]
 
 
-def _replace(net, places):
-    """Connect the peers of ports with new ports that take their places; places is a dict from old to new ports."""
+def _put_in(net, pair, plan):
+    """Let new agents take the places of ports of a pair, and return the list of the wires that are made by it."""
+    names = [net.new_agent(kind, level, data) for kind, level, data in plan.agents]
+    made = [((names[one[0]], one[1]), (names[other[0]], other[1]), []) for one, other in plan.wires]
+    places = {(pair[old[0]], old[1]): (names[new[0]], new[1]) for old, new in plan.places.items()}
     for old, new in places.items():
         peer = net.peer(old[0], old[1])
         # Both ends of the wire may be replaced.
-        net.connect(new, places.get(peer, peer))
-
-
-def _duplicate(net, fan, name):
-    """Let a fan make two copies of an agent, and let the copies share the wires of the agent through new fans."""
-    kind, level, data = net.agent(name)
-    first = net.new_agent(kind, level, data)
-    second = net.new_agent(kind, level, data)
-    places = {(fan, 1): (first, 0), (fan, 2): (second, 0)}
-    for port in range(1, PORTS[kind]):
-        new_fan = net.new_agent("fan", net.agent(fan)[1], None)
-        net.connect((new_fan, 1), (first, port))
-        net.connect((new_fan, 2), (second, port))
-        places[(name, port)] = (new_fan, 0)
-    _replace(net, places)
-
-
-def _operate(net, number, name):
-    """Let an operation take its next operand."""
-    operand = net.agent(number)[2]
-    kind, level, data = net.agent(name)
-    if kind == "op":
-        agent = net.new_agent("op1", level, (data, operand))
-        _replace(net, {(name, 1): (agent, 0), (name, 2): (agent, 1)})
-    else:
-        agent = net.new_agent("num", 0, result_of(data[0], data[1], operand))
-        _replace(net, {(name, 1): (agent, 0)})
+        made.append((new, places.get(peer, peer), [old]))
+    for one, other, _ in made:
+        net.connect(one, other)
+    return made

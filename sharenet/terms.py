@@ -37,6 +37,11 @@ def bound_names(term):
     return list(term[1:1 + _NAMES_BOUND.get(term[0], 0)])
 
 
+def with_names(term, names):
+    """Return a term in which other names stand directly behind its form: those that it binds, or that of a variable."""
+    return term[:1] + tuple(names) + term[1 + len(names):]
+
+
 def size_of(term):
     """Return the number of the nodes of a term."""
     size = 0

@@ -6,8 +6,9 @@ import pathlib
 import unittest
 
 import sharenet
-from sharenet import building, canonical, checking, core, families, kinds, linking, needed, net, plain, readback
-from sharenet import reader, records, rules, running, terms, tokens, writer
+from sharenet import building, canonical, cells, checking, core, crew, evaluating, families, history, kinds, linking
+from sharenet import needed, needing, net, numerals, plain, readback, reader, records, rounds, rules, running
+from sharenet import simplifying, suspending, terms, tokens, wirekinds, writer
 
 FOLDER = pathlib.Path(sharenet.__file__).parent
 FILES = sorted(FOLDER.rglob("*.py"))
@@ -40,13 +41,36 @@ SIGNATURES = {
     "readback": {"read_back": "(net)", "read_count": "(net, name)", "shared_agents": "(net)"},
     "needed": {"value_known": "(net)", "needed_pair": "(net)", "run_needed": "(net, *, most=10000)"},
     "records": {"record_of": "(term, *, choices=(), most=2000)", "check_record": "(term, record, core)"},
+    "cells": {"CellMachine": "(net, *, capacity)"},
+    "crew": {"Crew": "(net, *, workers)"},
+    "numerals": {"numeral": "(count, kind)", "numeral_sum": "(first, second, kind)",
+                 "numeral_product": "(first, second, kind)", "applied_numeral": "(term, function, argument)",
+                 "fibonacci_term": "(count)"},
+    "evaluating": {"Evaluator": "(*, most=10000, simple=False)"},
+    "wirekinds": {"plain_kind": "(kind)", "net_fits": "(net, kind)"},
+    "simplifying": {"is_simple": "(term)", "simplified": "(term)"},
+    "needing": {"need_normal": "(term, *, most=10000)"},
+    "rounds": {"run_rounds": "(net, *, most=10000)", "depths_of": "(net, *, choices=(), most=10000)"},
+    "history": {"History": "(net)"},
+    "suspending": {"dump": "(machine)", "restored": "(text)", "moved": "(machine, *, capacity)"},
 }
-METHODS = {"names": "(self)", "agent": "(self, name)", "peer": "(self, name, port)", "pairs": "(self)",
-           "copied": "(self)", "__len__": "(self)"}
+METHODS = {
+    net.Net: {"names": "(self)", "agent": "(self, name)", "peer": "(self, name, port)", "pairs": "(self)",
+              "copied": "(self)", "__len__": "(self)"},
+    cells.CellMachine: {"memory": "(self)", "numbers": "(self)", "signs": "(self)", "free_cells": "(self)",
+                        "pairs": "(self)", "interact": "(self, pair)", "run": "(self, *, choices=(), most=10000)",
+                        "to_net": "(self)"},
+    crew.Crew: {"turn": "(self, worker)", "tick": "(self)", "queues": "(self)",
+                "run": "(self, *, turns=(), most=10000)", "shares": "(self)", "present_net": "(self)"},
+    evaluating.Evaluator: {"run_text": "(self, text)"},
+    history.History: {"forward": "(self, choice)", "back": "(self)", "present_net": "(self)", "__len__": "(self)"},
+}
 MODULES = {"kinds": kinds, "tokens": tokens, "terms": terms, "reader": reader, "writer": writer,
            "linking": linking, "checking": checking, "core": core, "plain": plain, "families": families, "net": net,
            "canonical": canonical, "building": building, "rules": rules, "running": running, "readback": readback,
-           "needed": needed, "records": records}
+           "needed": needed, "records": records, "cells": cells, "crew": crew, "numerals": numerals,
+           "evaluating": evaluating, "wirekinds": wirekinds, "simplifying": simplifying, "needing": needing,
+           "rounds": rounds, "history": history, "suspending": suspending}
 
 
 class Interface(unittest.TestCase):
@@ -59,8 +83,16 @@ class Interface(unittest.TestCase):
                     self.assertEqual(str(inspect.signature(function)), arguments)
 
     def test_methods_stand_in_the_class_itself(self):
-        for name, arguments in METHODS.items():
-            self.assertEqual(str(inspect.signature(vars(net.Net)[name])), arguments)
+        for owner, methods in METHODS.items():
+            for name, arguments in methods.items():
+                with self.subTest(f"{owner.__name__}.{name}"):
+                    self.assertEqual(str(inspect.signature(vars(owner)[name])), arguments)
+
+    def test_attributes_are_set_when_an_object_is_created(self):
+        self.assertEqual(vars(evaluating.Evaluator())["counts"], None)
+        self.assertIs(vars(evaluating.Evaluator())["busy"], False)
+        small = net.Net([("root", 0, None), ("num", 0, 5)], [((0, 0), (1, 0))])
+        self.assertEqual(vars(cells.CellMachine(small, capacity=4))["peak"], 2)
 
     def test_constants(self):
         self.assertIsInstance(net.PORTS, dict)
