@@ -9,7 +9,7 @@ _MOST = 60
 def numeral(count, kind):
     """Return the numeral of a count over a kind."""
     if not 1 <= count <= _MOST:
-        raise TooLarge(f"there is no numeral {count}")
+        raise TooLarge(f"numerals go from 1 to {_MOST}")
     body = ("var", "x")
     for _ in range(count):
         body = ("app", ("var", "g"), body)

@@ -52,7 +52,8 @@ class NeedMachine:
     def value_of(self, suspension):
         """Return the value of a suspension."""
         self.ask_for(suspension)
-        while self.term is not None or self.frames:
+        # As long as there is a term, a frame waits for its value.
+        while self.frames:
             if self.term is None:
                 self.pass_value(self.frames.pop())
             elif self.term[0] in ("num", "lam", "pair"):

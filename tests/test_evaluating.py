@@ -159,6 +159,7 @@ class Errors(unittest.TestCase):
         evaluator = Evaluator()
         self.assertEqual(evaluator.run_text(text), ("num", -5000))
         self.assertEqual(evaluator.counts, (0, 0, 0, 0, 10000))
+        self.assertRaises(TooLong, evaluator.run_text, text.replace("= 0", "= (\\x:Int. x) 0"))
         self.assertRaises(TooLong, evaluator.run_text, text.replace(";", " - 1;"))
         self.assertEqual(evaluator.counts, (0, 0, 0, 0, 10000))
         self.assertEqual(Evaluator(most=10002).run_text(text.replace(";", " - 1;")), ("num", -5001))
